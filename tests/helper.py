@@ -1,0 +1,163 @@
+"""Words and things that are none, and a slow way to do a word, for the tests."""
+
+import random
+
+GREATEST = 10**20 - 1
+
+
+def nested(depth, inside):
+    """`inside` within so many times."""
+    word = inside
+    for _ in range(depth):
+        word = (("times", 2, word),)
+    return word
+
+
+WORDS = [
+    (),
+    (("go", 0),),
+    (("go", GREATEST),),
+    (("jump", 0),),
+    (("jump", GREATEST),),
+    (("jump", -GREATEST),),
+    (("turn", 0),),
+    (("turn", GREATEST),),
+    (("turn", -GREATEST),),
+    (("times", 0, ()),),
+    (("times", GREATEST, ()),),
+    (("times", 3, (("go", 2), ("turn", -1))),),
+    (("go", 1),) * 30,
+    (("times", 1, (("go", 1),) * 29),),
+    (("times", 0, (("go", 1),) * 14), ("times", 2, (("turn", 1),) * 14)),
+    nested(4, ()),
+    nested(4, (("go", 1),)),
+    nested(4, (("go", 1),) * 26),
+    nested(4, ()) + nested(4, (("jump", -1),)),
+    (("go", 3), ("turn", 1), ("times", 4, (("go", 2), ("turn", -1)))),
+]
+
+PLAINLY_NO_WORDS = [
+    (("go", -1),),
+    (("go", -GREATEST),),
+    (("go", GREATEST + 1),),
+    (("jump", GREATEST + 1),),
+    (("jump", -GREATEST - 1),),
+    (("turn", GREATEST + 1),),
+    (("turn", -GREATEST - 1),),
+    (("turn", 10**30),),
+    (("times", -1, ()),),
+    (("times", -1, (("go", 1),)),),
+    (("times", GREATEST + 1, ()),),
+    (("go", 1),) * 31,
+    (("turn", 0),) * 100,
+    (("times", 1, (("go", 1),) * 30),),
+    (("times", 0, (("go", 1),) * 30),),
+    (("times", 0, (("go", 1),) * 14), ("times", 2, (("turn", 1),) * 15)),
+    nested(4, (("go", 1),) * 27),
+    nested(5, ()),
+    nested(5, (("go", 1),)),
+    nested(9, (("go", 1),)),
+    (("go", 1),) + nested(5, ()),
+    (("stay", 1),),
+    (("", 1),),
+    (("Go", 1),),
+    (("go ", 1),),
+    (("draw", 1, ()),),
+    (("times ", 1, ()),),
+    (("go",),),
+    (("jump",),),
+    (("turn",),),
+    (("times",),),
+    (("times", 2),),
+    (("times", ()),),
+    (("go", 1, 2),),
+    (("go", 1, ()),),
+    (("jump", 1, 2),),
+    (("jump", 1, (("go", 1),)),),
+    (("turn", 1, 2),),
+    (("turn", 1, ()),),
+    (("times", 1, (), ()),),
+    (("times", 1, (), 1),),
+    (("times", 1, 1, ()),),
+    ((),),
+    (("go", 1), ()),
+    ((), ("go", 1)),
+    (("go", ()),),
+    (("jump", (("go", 1),)),),
+    (("turn", ()),),
+    (("times", (), ()),),
+    (("times", 2, 3),),
+    (("times", (), 2),),
+]
+
+
+def within(word):
+    """What is no word, at other places where it spoils the whole."""
+    return [
+        word,
+        (("go", 1),) + word,
+        word + (("turn", 1),),
+        (("times", 2, word),),
+        (("times", 0, word),),
+        (("times", 1, (("times", 0, (("jump", 1),) + word),)),),
+    ]
+
+
+NO_WORDS = [spoilt for word in PLAINLY_NO_WORDS for spoilt in within(word)]
+
+
+def plain_deeds(word):
+    """The deeds go, jump and turn that a word goes through, one by one."""
+    done = []
+    for deed in word:
+        if deed[0] == "times":
+            done.extend(plain_deeds(deed[2]) * deed[1])
+        else:
+            done.append(deed)
+    return done
+
+
+def slowly_carried(pen, word):
+    """The pen behind a word, led point by point and quarter by quarter."""
+    x, y, heading = pen
+    for kind, number in plain_deeds(word):
+        for _ in range(abs(number)):
+            sign = 1 if number > 0 else -1
+            if kind == "turn":
+                heading = {0: 1, 1: 2, 2: 3, 3: 0}[heading] if sign > 0 else {0: 3, 1: 0, 2: 1, 3: 2}[heading]
+            elif heading == 0:
+                x += sign
+            elif heading == 1:
+                y += sign
+            elif heading == 2:
+                x -= sign
+            else:
+                y -= sign
+    return (x, y, heading)
+
+
+def some_word(chance, most_deeds, depth):
+    """A word of small numbers, of at most so many deeds altogether."""
+    deeds = []
+    left = chance.randint(0, most_deeds)
+    while left > 0:
+        left -= 1
+        kind = chance.choice(["go", "jump", "turn", "times"])
+        if kind == "times" and depth > 0:
+            inside = some_word(chance, left, depth - 1)
+            left -= count(inside)
+            deeds.append((kind, chance.randint(0, 5), inside))
+        elif kind == "go":
+            deeds.append((kind, chance.randint(0, 4)))
+        else:
+            deeds.append(("jump" if kind == "jump" else "turn", chance.randint(-6, 6)))
+    return tuple(deeds)
+
+
+def count(word):
+    return sum(1 + (count(deed[2]) if deed[0] == "times" else 0) for deed in word)
+
+
+def some_words(number):
+    chance = random.Random(10)
+    return [some_word(chance, 8, 4) for _ in range(number)]

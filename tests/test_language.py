@@ -1,0 +1,221 @@
+"""Holds the package's files against the rules of the language that a walk over their trees can see."""
+
+import ast
+import builtins
+import re
+import unittest
+from pathlib import Path
+
+PACKAGE = Path(__file__).resolve().parent.parent / "penwright"
+
+STATEMENTS = (
+    ast.Assign, ast.AugAssign, ast.If, ast.While, ast.For, ast.Return, ast.Break, ast.Continue, ast.Pass, ast.Raise,
+    ast.Try, ast.Expr, ast.FunctionDef, ast.ClassDef, ast.ImportFrom,
+)
+EXPRESSIONS = (
+    ast.Constant, ast.List, ast.Tuple, ast.Dict, ast.Set, ast.BinOp, ast.UnaryOp, ast.Compare, ast.BoolOp, ast.IfExp,
+    ast.Call, ast.Attribute, ast.Subscript, ast.Slice, ast.ListComp, ast.JoinedStr, ast.FormattedValue, ast.Name,
+    ast.Lambda,
+)
+PLAIN_VALUES = (ast.Constant, ast.List, ast.Tuple, ast.Dict, ast.UnaryOp, ast.USub, ast.Name, ast.Load)
+OWN_NAMES = set(
+    "len range enumerate zip min max sum abs sorted reversed int str bool list tuple dict set frozenset isinstance ord"
+    " repr any all divmod Exception ValueError TypeError KeyError IndexError LookupError ZeroDivisionError"
+    " ArithmeticError OverflowError RuntimeError NotImplementedError AttributeError StopIteration".split()
+)
+OWN_METHODS = set(
+    "append clear copy count endswith extend find get index insert isalnum isalpha isdigit islower isspace isupper items"
+    " join keys ljust lower lstrip partition pop remove replace reverse rfind rjust rpartition rsplit rstrip setdefault"
+    " split splitlines startswith strip update upper values zfill bit_length".split()
+)
+UNUSED_NAMES = set(
+    "register mro elements open input version_info with_traceback add_note attrgetter breakpoint builtins compile"
+    " copyright credits delattr dir eval exec exit gc getattr globals hasattr help id importlib license locals"
+    " methodcaller os quit setattr super type vars sys chr format format_map".split()
+)
+UNUSED_WORDS = (
+    r"\b(type|typing|typing_extensions|enum|Enum|IntEnum|StrEnum|Flag|IntFlag|Generic|Protocol|ABC|ABCMeta|namedtuple"
+    r"|NamedTuple|TypedDict|TYPE_CHECKING|abstractmethod)\b|dataclass|overload|contextmanager"
+)
+METHODS_WITH_UNDERSCORES = ("__init__", "__eq__", "__repr__", "__str__", "__len__")
+
+
+def source_files():
+    return sorted(path for path in PACKAGE.iterdir() if path.name != "__pycache__")
+
+
+def top_names(tree):
+    names = []
+    for node in tree.body:
+        if isinstance(node, (ast.FunctionDef, ast.ClassDef)):
+            names.append(node.name)
+        elif isinstance(node, ast.Assign):
+            names.append(node.targets[0].id)
+        elif isinstance(node, ast.ImportFrom):
+            names.extend(alias.name for alias in node.names)
+    return names
+
+
+def bound_names(tree):
+    for node in ast.walk(tree):
+        if isinstance(node, (ast.FunctionDef, ast.ClassDef)):
+            yield node.name
+        elif isinstance(node, ast.arg):
+            yield node.arg
+        elif isinstance(node, ast.Name) and isinstance(node.ctx, ast.Store):
+            yield node.id
+        elif isinstance(node, ast.ExceptHandler) and node.name:
+            yield node.name
+
+
+def local_names(function):
+    names = {node.arg for node in ast.walk(function) if isinstance(node, ast.arg)}
+    return names | {node.id for node in ast.walk(function) if isinstance(node, ast.Name) and isinstance(node.ctx, ast.Store)}
+
+
+class Language(unittest.TestCase):
+    def setUp(self):
+        self.texts = {path: path.read_text(encoding="utf-8") for path in source_files()}
+        self.trees = {path: ast.parse(text) for path, text in self.texts.items()}
+
+    def every_node(self):
+        for path, tree in self.trees.items():
+            for node in ast.walk(tree):
+                yield f"{path.name}:{getattr(node, 'lineno', 0)}", node
+
+    def refuse(self, where, rule, wrong):
+        self.assertFalse(wrong, f"{where}: {rule}")
+
+    def test_files(self):
+        for path, text in self.texts.items():
+            self.assertRegex(path.name, r"^[a-z][a-z0-9_]*\.py$|^__init__\.py$|^__main__\.py$", "L1, L14")
+            self.assertLessEqual(len(text.splitlines()), 400, f"{path.name}: L10")
+            for number, line in enumerate(text.split("\n"), start=1):
+                where = f"{path.name}:{number}"
+                self.refuse(where, "L10", len(line) > 120)
+                self.refuse(where, "L14", any(not " " <= sign <= "~" for sign in line))
+                self.refuse(where, "L17", re.search(UNUSED_WORDS, line))
+        self.assertIn(PACKAGE / "__init__.py", self.texts)
+
+    def test_tops(self):
+        for path, tree in self.trees.items():
+            names = top_names(tree)
+            self.assertEqual(len(names), len(set(names)), f"{path.name}: L15")
+            for node in tree.body:
+                where = f"{path.name}:{node.lineno}"
+                if isinstance(node, ast.Assign):
+                    plain = all(isinstance(part, PLAIN_VALUES) for part in ast.walk(node.value))
+                    self.refuse(where, "L3", not plain or not isinstance(node.targets[0], ast.Name))
+                elif isinstance(node, ast.Expr):
+                    self.refuse(where, "L3", node is not tree.body[0] or not isinstance(node.value, ast.Constant))
+                else:
+                    self.refuse(where, "L3", not isinstance(node, (ast.FunctionDef, ast.ClassDef, ast.ImportFrom)))
+
+    def test_imports(self):
+        drawn = {path.stem: [] for path in self.trees}
+        for path, tree in self.trees.items():
+            for node in ast.walk(tree):
+                self.refuse(path.name, "L16", isinstance(node, ast.Import))
+                if isinstance(node, ast.ImportFrom):
+                    where = f"{path.name}:{node.lineno}"
+                    self.refuse(where, "L2", node not in tree.body or node.level or not node.module.startswith("penwright."))
+                    source = node.module.partition(".")[2]
+                    drawn[path.stem].append(source)
+                    defined = top_names(ast.parse((PACKAGE / f"{source}.py").read_text()))
+                    for alias in node.names:
+                        self.refuse(where, "L16", alias.asname or alias.name not in defined)
+        seen = []
+        while len(seen) < len(drawn):
+            free = [name for name in drawn if name not in seen and all(other in seen for other in drawn[name])]
+            self.assertTrue(free, "L16: files draw from one another")
+            seen.extend(free)
+
+    def test_imported_names_stand_where_they_are_defined(self):
+        for path, tree in self.trees.items():
+            for node in tree.body:
+                if isinstance(node, ast.ImportFrom):
+                    source = self.trees[PACKAGE / f"{node.module.partition('.')[2]}.py"]
+                    again = [alias.name for part in source.body if isinstance(part, ast.ImportFrom) for alias in part.names]
+                    for alias in node.names:
+                        self.refuse(f"{path.name}:{node.lineno}", "L16", alias.name in again)
+
+    def test_statements_and_expressions(self):
+        for where, node in self.every_node():
+            if isinstance(node, ast.stmt):
+                self.refuse(where, "L6", not isinstance(node, STATEMENTS))
+            if isinstance(node, ast.expr):
+                self.refuse(where, "L7", not isinstance(node, EXPRESSIONS))
+            if isinstance(node, ast.Assign):
+                self.refuse(where, "L6", len(node.targets) != 1)
+            if isinstance(node, (ast.For, ast.While)):
+                self.refuse(where, "L6", node.orelse)
+            if isinstance(node, ast.Try):
+                self.refuse(where, "L6", node.finalbody)
+            if isinstance(node, ast.Constant):
+                self.refuse(where, "L7", node.value is not None and not isinstance(node.value, (bool, int, str)))
+                self.refuse(where, "L27", isinstance(node.value, str) and "%" in node.value)
+            if isinstance(node, ast.BinOp):
+                self.refuse(where, "L7", isinstance(node.op, (ast.Div, ast.MatMult)))
+                self.refuse(where, "L27", isinstance(node.op, ast.Pow) and not self.is_small_power(node))
+            if isinstance(node, ast.ListComp):
+                self.refuse(where, "L7", len(node.generators) != 1 or len(node.generators[0].ifs) > 1)
+            if isinstance(node, ast.FormattedValue):
+                self.refuse(where, "L7", not isinstance(node.value, ast.Name) or node.format_spec)
+            if isinstance(node, ast.Compare) and any(isinstance(op, (ast.Is, ast.IsNot)) for op in node.ops):
+                beside = [node.left] + node.comparators
+                plain = [isinstance(part, ast.Constant) and part.value in (None, True, False) for part in beside]
+                self.refuse(where, "L20", not any(plain))
+
+    def is_small_power(self, node):
+        return isinstance(node.right, ast.Constant) and 0 <= node.right.value <= 64
+
+    def test_bare_statements_are_calls(self):
+        for path, tree in self.trees.items():
+            for node in ast.walk(tree):
+                if isinstance(node, ast.Expr) and node is not tree.body[0]:
+                    self.refuse(f"{path.name}:{node.lineno}", "L6", not isinstance(node.value, ast.Call))
+
+    def test_functions_and_classes(self):
+        for where, node in self.every_node():
+            if isinstance(node, (ast.FunctionDef, ast.Lambda)):
+                args = node.args
+                self.refuse(where, "L4", args.vararg or args.kwarg or args.kwonlyargs or args.posonlyargs)
+            if isinstance(node, ast.FunctionDef):
+                self.refuse(where, "L4", node.decorator_list)
+                self.refuse(where, "L10", node.end_lineno - node.lineno + 1 > 40)
+            if isinstance(node, ast.ClassDef):
+                self.refuse(where, "L5", node.decorator_list or node.keywords or len(node.bases) > 1)
+                self.refuse(where, "L5", any(not isinstance(part, (ast.FunctionDef, ast.Pass)) for part in node.body))
+
+    def test_errors(self):
+        for where, node in self.every_node():
+            if isinstance(node, ast.ExceptHandler):
+                self.refuse(where, "L19", node.type is None)
+                taken = [part.id for part in ast.walk(node.type) if isinstance(part, ast.Name)]
+                self.refuse(where, "L19", {"Exception", "TypeError"} & set(taken))
+            if isinstance(node, ast.Raise):
+                self.refuse(where, "L19", not isinstance(node.exc, ast.Call))
+
+    def test_names(self):
+        for path, tree in self.trees.items():
+            for name in bound_names(tree):
+                if name not in METHODS_WITH_UNDERSCORES:
+                    self.assertRegex(name, r"^[A-Za-z][A-Za-z0-9_]*$", f"{path.name}: L12")
+                    self.refuse(path.name, f"L8, L15 {name}", hasattr(builtins, name))
+            self.check_locals(path, tree)
+        own = {name for tree in self.trees.values() for name in bound_names(tree)}
+        values = {node.attr for _, node in self.every_node() if isinstance(node, ast.Attribute) and isinstance(node.ctx, ast.Store)}
+        for where, node in self.every_node():
+            if isinstance(node, ast.Name):
+                self.refuse(where, f"L17 {node.id}", node.id in UNUSED_NAMES)
+                self.refuse(where, f"L8 {node.id}", hasattr(builtins, node.id) and node.id not in OWN_NAMES)
+            if isinstance(node, ast.Attribute):
+                self.refuse(where, f"L17 {node.attr}", node.attr in UNUSED_NAMES)
+                self.refuse(where, f"L25 {node.attr}", node.attr not in OWN_METHODS | own | values)
+
+    def check_locals(self, path, tree):
+        taken = [node.name for node in tree.body if isinstance(node, ast.ClassDef)]
+        taken += [alias.name for node in tree.body if isinstance(node, ast.ImportFrom) for alias in node.names]
+        for node in ast.walk(tree):
+            if isinstance(node, ast.FunctionDef):
+                self.refuse(f"{path.name}:{node.lineno}", "L15", local_names(node) & set(taken))
