@@ -1,4 +1,4 @@
-"""Words and things that are none, and a slow way to do a word, for the tests."""
+"""Words, pictures and things that are none, and slow ways to do a word, for the tests."""
 
 import random
 
@@ -161,3 +161,84 @@ def count(word):
 def some_words(number):
     chance = random.Random(10)
     return [some_word(chance, 8, 4) for _ in range(number)]
+
+
+STEPS = [(1, 0), (0, 1), (-1, 0), (0, -1)]
+
+
+def slowly_drawn(word, pen=(0, 0, 0)):
+    """The strokes that a word draws from a pen on, as often as it draws them, one by one."""
+    x, y, heading = pen
+    strokes = []
+    for kind, number in plain_deeds(word):
+        step_x, step_y = STEPS[heading]
+        if kind == "turn":
+            heading = (heading + number) % 4
+        elif kind == "jump":
+            x, y = x + number * step_x, y + number * step_y
+        else:
+            for _ in range(number):
+                strokes.append((min(x, x + step_x), min(y, y + step_y), 0 if step_x else 1))
+                x, y = x + step_x, y + step_y
+    return strokes
+
+
+def two_ends(stroke):
+    x, y, way = stroke
+    return [(x, y), (x, y + 1) if way else (x + 1, y)]
+
+
+def is_picture(told):
+    """Whether something told is a picture, of the kinds that it must have."""
+    return (
+        type(told) is tuple
+        and all(type(stroke) is tuple and [type(number) for number in stroke] == [int] * 3 for stroke in told)
+        and all(stroke[2] in (0, 1) for stroke in told)
+        and list(told) == sorted(set(told))
+    )
+
+
+SQUARE = ((0, 0, 0), (0, 0, 1), (0, 1, 0), (1, 0, 1))
+
+NO_PICTURES = [
+    # two strokes exchanged
+    ((0, 0, 1), (0, 0, 0)),
+    ((0, 1, 0), (0, 0, 1)),
+    ((1, 0, 0), (0, 5, 1)),
+    ((0, 0, 0), (0, 1, 0), (0, 0, 1), (1, 0, 1)),
+    ((0, 0, 0), (0, 0, 1), (1, 0, 1), (0, 1, 0)),
+    ((10**30, 0, 0), (-(10**30), 0, 0)),
+    # one twice
+    ((0, 0, 0), (0, 0, 0)),
+    ((0, 0, 0), (0, 0, 1), (0, 0, 1), (0, 1, 0)),
+    ((0, 0, 0), (0, 0, 1), (0, 0, 0)),
+    # no such way
+    ((0, 0, 2),),
+    ((0, 0, -1),),
+    ((0, 0, 10**30),),
+    ((0, 0, 0), (0, 0, 2)),
+    ((0, 0, -1), (0, 0, 0)),
+    ((0, 0, 0), (1, 0, 3), (2, 0, 0)),
+    # strokes of two numbers, four, one and none
+    ((0, 0),),
+    ((0, 0, 0, 0),),
+    ((0, 0, 0, 1),),
+    ((0,),),
+    ((),),
+    ((), (0, 0, 0)),
+    ((0, 0, 0), (1, 0)),
+    ((0, 0), (0, 0, 0)),
+    ((0, 0, 0), (0, 0, 0, 0)),
+    ((0, 0, 0), (0, 0, 1), (5,)),
+    ((0, 0, 0), ()),
+]
+
+
+def some_picture(chance, most, width):
+    strokes = {(chance.randint(0, width), chance.randint(0, width), chance.randint(0, 1)) for _ in range(most)}
+    return tuple(sorted(strokes))
+
+
+def some_pictures(number):
+    chance = random.Random(20)
+    return [some_picture(chance, chance.randint(0, 25), chance.randint(0, 5)) for _ in range(number)]

@@ -37,6 +37,7 @@ UNUSED_WORDS = (
     r"\b(type|typing|typing_extensions|enum|Enum|IntEnum|StrEnum|Flag|IntFlag|Generic|Protocol|ABC|ABCMeta|namedtuple"
     r"|NamedTuple|TypedDict|TYPE_CHECKING|abstractmethod)\b|dataclass|overload|contextmanager"
 )
+CHANGING = ("append", "clear", "extend", "insert", "pop", "remove", "reverse", "setdefault", "update")
 METHODS_WITH_UNDERSCORES = ("__init__", "__eq__", "__repr__", "__str__", "__len__")
 
 
@@ -71,6 +72,43 @@ def bound_names(tree):
 def local_names(function):
     names = {node.arg for node in ast.walk(function) if isinstance(node, ast.arg)}
     return names | {node.id for node in ast.walk(function) if isinstance(node, ast.Name) and isinstance(node.ctx, ast.Store)}
+
+
+def called_name(call):
+    """How a call's function or method is called."""
+    return call.func.id if isinstance(call.func, ast.Name) else getattr(call.func, "attr", None)
+
+
+def is_walked_at_once(call, node):
+    if isinstance(node, (ast.For, ast.comprehension)):
+        return node.iter is call
+    if not isinstance(node, ast.Call) or call not in node.args:
+        return False
+    if called_name(node) == "join":
+        return isinstance(node.func, ast.Attribute) and isinstance(node.func.value, ast.Constant)
+    if called_name(node) in ("min", "max"):
+        return node.args == [call]
+    walkers = ("list", "tuple", "dict", "sorted", "sum", "any", "all", "enumerate", "zip")
+    return called_name(node) in walkers and (node.args[0] is call or called_name(node) == "zip")
+
+
+def is_asked_at_once(call, above):
+    node = above[call]
+    while isinstance(node, ast.BinOp) and isinstance(node.op, (ast.Sub, ast.BitAnd, ast.BitOr, ast.BitXor)):
+        node = above[node]
+    if isinstance(node, ast.Compare):
+        return all(isinstance(op, (ast.In, ast.NotIn, ast.Eq, ast.NotEq)) for op in node.ops)
+    return isinstance(node, ast.Call) and called_name(node) in ("sorted", "len") and not node.keywords
+
+
+def changed_names(statement):
+    """The names of what a statement changes by a method or an index."""
+    for node in ast.walk(statement):
+        if isinstance(node, ast.Call) and isinstance(node.func, ast.Attribute) and node.func.attr in CHANGING:
+            if isinstance(node.func.value, ast.Name):
+                yield node.func.value.id
+        if isinstance(node, ast.Subscript) and isinstance(node.ctx, ast.Store) and isinstance(node.value, ast.Name):
+            yield node.value.id
 
 
 class Language(unittest.TestCase):
@@ -219,3 +257,38 @@ class Language(unittest.TestCase):
         for node in ast.walk(tree):
             if isinstance(node, ast.FunctionDef):
                 self.refuse(f"{path.name}:{node.lineno}", "L15", local_names(node) & set(taken))
+
+    def test_what_is_walked_at_once_and_sets(self):
+        for path, tree in self.trees.items():
+            above = {child: node for node in ast.walk(tree) for child in ast.iter_child_nodes(node)}
+            for node in ast.walk(tree):
+                if isinstance(node, ast.Call):
+                    where = f"{path.name}:{node.lineno}"
+                    name = called_name(node)
+                    if name in ("zip", "enumerate", "reversed", "range", "items", "keys", "values"):
+                        self.refuse(where, "L23", not is_walked_at_once(node, above[node]))
+                    if name in ("set", "frozenset"):
+                        self.refuse(where, "L24", not is_asked_at_once(node, above))
+                if isinstance(node, (ast.Set, ast.SetComp)):
+                    self.refuse(f"{path.name}:{node.lineno}", "L13, L24", True)
+
+    def test_loops_do_not_change_what_they_walk(self):
+        for where, node in self.every_node():
+            if isinstance(node, ast.For):
+                walked = {part.id for part in ast.walk(node.iter) if isinstance(part, ast.Name)}
+                changed = {name for part in node.body for name in changed_names(part)}
+                self.refuse(where, f"L23 {walked & changed}", walked & changed)
+
+    def test_own_methods_and_values(self):
+        methods, values = set(), set()
+        for _, node in self.every_node():
+            if isinstance(node, ast.ClassDef):
+                methods.update(part.name for part in node.body if isinstance(part, ast.FunctionDef))
+            if isinstance(node, ast.Attribute) and isinstance(node.ctx, ast.Store):
+                values.add(node.attr)
+        self.assertFalse(methods & values, "L18")
+        of_python = {name for kind in (str, int, list, dict, set, bytes) for name in dir(kind)}
+        free = OWN_METHODS | {"add", "discard"} | set(METHODS_WITH_UNDERSCORES)
+        self.assertFalse((methods - free) & of_python, "L26")
+        allowed = set("count index title find get join lower upper split strip copy add".split())
+        self.assertFalse((values - allowed) & of_python, "L26")
