@@ -46,6 +46,17 @@ def picture_with(strokes):
     return tuple(sorted(set(strokes)))
 
 
+# The least x and y and the greatest x and y of all points at which strokes
+# end, or None.
+def picture_box(picture):
+    if len(picture) == 0:
+        return None
+    least = [ends_of(stroke)[0] for stroke in picture]
+    greatest = [ends_of(stroke)[1] for stroke in picture]
+    corner = (min([point[0] for point in least]), min([point[1] for point in least]))
+    return corner + (max([point[0] for point in greatest]), max([point[1] for point in greatest]))
+
+
 def picture_of(word):
     if not is_small(word):
         raise NoRoom("the word is not small")

@@ -242,3 +242,61 @@ def some_picture(chance, most, width):
 def some_pictures(number):
     chance = random.Random(20)
     return [some_picture(chance, chance.randint(0, 25), chance.randint(0, 5)) for _ in range(number)]
+
+
+def sketched(*lines, x=0, y=0):
+    """The picture that lines of signs sketch, the lower left point of them at (x, y); blanks are as good as dots."""
+    top = y + (len(lines) - 1) // 2
+    strokes = []
+    for row, line in enumerate(lines):
+        for column, sign in enumerate(line):
+            if sign == "-":
+                strokes.append((x + (column - 1) // 2, top - row // 2, 0))
+            if sign == "|":
+                strokes.append((x + column // 2, top - (row + 1) // 2, 1))
+    return tuple(sorted(strokes))
+
+
+def outline(cells):
+    """The strokes that have one of the cells on just one side."""
+    beside = {}
+    for x, y in set(cells):
+        for stroke in [(x, y, 0), (x, y, 1), (x, y + 1, 0), (x + 1, y, 1)]:
+            beside[stroke] = beside.get(stroke, 0) + 1
+    return tuple(sorted(stroke for stroke, often in beside.items() if often == 1))
+
+
+def block(width, height, x=0, y=0):
+    """The cells of a rectangle."""
+    return [(x + column, y + row) for column in range(width) for row in range(height)]
+
+
+def slow_pieces(picture):
+    """The pieces of a picture, each as a list of strokes."""
+    pieces = []
+    for stroke in picture:
+        near = [piece for piece in pieces if any(set(two_ends(stroke)) & set(two_ends(other)) for other in piece)]
+        pieces = [piece for piece in pieces if piece not in near]
+        pieces.append([stroke] + [other for piece in near for other in piece])
+    return pieces
+
+
+def changeable(told):
+    """All lists and dicts in what is told."""
+    found = []
+    if isinstance(told, (list, tuple)):
+        parts = list(told)
+    elif isinstance(told, dict):
+        parts = list(told.values())
+    else:
+        return []
+    if not isinstance(told, tuple):
+        found.append(told)
+    for part in parts:
+        found.extend(changeable(part))
+    return found
+
+
+def no_two_are_one(told):
+    found = changeable(told)
+    return len(found) == len({id(part) for part in found})

@@ -101,6 +101,20 @@ def is_asked_at_once(call, above):
     return isinstance(node, ast.Call) and called_name(node) in ("sorted", "len") and not node.keywords
 
 
+def is_only_read(name, node):
+    """Whether a list or dict of a file's top is only read, or copied, where its name stands."""
+    if isinstance(node, ast.Subscript):
+        return node.value is name and isinstance(node.ctx, ast.Load)
+    if isinstance(node, ast.Compare):
+        return all(isinstance(op, (ast.In, ast.NotIn, ast.Eq, ast.NotEq)) for op in node.ops)
+    if isinstance(node, (ast.For, ast.comprehension)):
+        return node.iter is name
+    if isinstance(node, ast.Attribute):
+        return node.attr in ("get", "items", "keys", "values", "index", "count", "copy")
+    readers = ("len", "list", "dict", "tuple", "sorted", "sum", "min", "max", "any", "all")
+    return isinstance(node, ast.Call) and isinstance(node.func, ast.Name) and node.func.id in readers
+
+
 def changed_names(statement):
     """The names of what a statement changes by a method or an index."""
     for node in ast.walk(statement):
@@ -148,6 +162,27 @@ class Language(unittest.TestCase):
                     self.refuse(where, "L3", node is not tree.body[0] or not isinstance(node.value, ast.Constant))
                 else:
                     self.refuse(where, "L3", not isinstance(node, (ast.FunctionDef, ast.ClassDef, ast.ImportFrom)))
+
+    def test_lists_and_dicts_of_the_top_are_only_read(self):
+        for path, tree in self.trees.items():
+            above = {child: node for node in ast.walk(tree) for child in ast.iter_child_nodes(node)}
+            tables = [node for node in tree.body if isinstance(node, ast.Assign) and isinstance(node.value, (ast.List, ast.Dict))]
+            names = [node.targets[0].id for node in tables]
+            for table in tables:
+                inside = [part for part in ast.walk(table.value) if isinstance(part, (ast.List, ast.Dict))]
+                self.refuse(f"{path.name}:{table.lineno}", "L15", len(inside) > 1)
+            for node in ast.walk(tree):
+                if isinstance(node, ast.Name) and node.id in names and isinstance(node.ctx, ast.Load):
+                    self.refuse(f"{path.name}:{node.lineno}", f"L15 {node.id}", not is_only_read(node, above[node]))
+
+    def test_functions_of_the_top_stand_above_where_they_are_kept(self):
+        for path, tree in self.trees.items():
+            defined = {node.name: node.lineno for node in tree.body if isinstance(node, ast.FunctionDef)}
+            for node in tree.body:
+                if isinstance(node, ast.Assign):
+                    for part in ast.walk(node.value):
+                        if isinstance(part, ast.Name):
+                            self.refuse(f"{path.name}:{part.lineno}", "L3", defined.get(part.id, part.lineno) >= part.lineno)
 
     def test_imports(self):
         drawn = {path.stem: [] for path in self.trees}
@@ -233,6 +268,11 @@ class Language(unittest.TestCase):
                 self.refuse(where, "L19", {"Exception", "TypeError"} & set(taken))
             if isinstance(node, ast.Raise):
                 self.refuse(where, "L19", not isinstance(node.exc, ast.Call))
+            if isinstance(node, ast.Try):
+                taken = {part.id for handler in node.handlers for part in ast.walk(handler.type) if isinstance(part, ast.Name)}
+                if taken & {"ValueError", "LookupError", "IndexError"}:
+                    calls = [called_name(part) for part in ast.walk(node.body[0]) if isinstance(part, ast.Call)]
+                    self.refuse(where, "L19", len(node.body) > 1 or set(calls) - {"int", "str", "index", "remove"})
 
     def test_names(self):
         for path, tree in self.trees.items():
